@@ -130,3 +130,50 @@ func TestFunctionsAreShort(t *testing.T) {
 		}
 	}
 }
+
+// At package level stand short tables that are written out, and errors made of one text.
+func TestVariables(t *testing.T) {
+	for _, f := range files(t) {
+		for _, d := range f.tree.Decls {
+			g, ok := d.(*ast.GenDecl)
+			if !ok || g.Tok != token.VAR {
+				continue
+			}
+			for _, s := range g.Specs {
+				v := s.(*ast.ValueSpec)
+				if len(v.Values) != len(v.Names) {
+					t.Error(f.path, v.Names[0].Name, "has no value of its own")
+				}
+				for i, value := range v.Values {
+					if !mayStand(value) {
+						t.Error(f.path, v.Names[i].Name, "may not stand at package level")
+					}
+				}
+			}
+		}
+	}
+}
+
+// mayStand: is it a table without maps, functions, addresses and calls, or an error?
+func mayStand(value ast.Expr) bool {
+	if call, ok := value.(*ast.CallExpr); ok {
+		f, ok := call.Fun.(*ast.SelectorExpr)
+		return ok && f.Sel.Name == "New" && len(call.Args) == 1
+	}
+	if _, ok := value.(*ast.CompositeLit); !ok {
+		return false
+	}
+	right := true
+	ast.Inspect(value, func(n ast.Node) bool {
+		switch x := n.(type) {
+		case *ast.MapType, *ast.FuncLit, *ast.FuncType, *ast.CallExpr, *ast.StarExpr:
+			right = false
+		case *ast.UnaryExpr:
+			right = right && x.Op != token.AND
+		case *ast.BasicLit:
+			right = right && x.Kind != token.FLOAT && x.Kind != token.IMAG
+		}
+		return true
+	})
+	return right
+}
