@@ -299,7 +299,7 @@ func TestAnyExpression(t *testing.T) {
 		}
 	}
 	for _, key := range keys {
-		if right[key] < 40 {
+		if right[key] < 20 {
 			t.Error("too few that are OK", key, right[key])
 		}
 	}
