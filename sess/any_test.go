@@ -521,7 +521,7 @@ func judge(t *testing.T, b *names.Book, text string, now settings) (sess.Answer,
 		return sess.Answer{}, now, false
 	}
 	parts := partForm.FindAllString(text, -1)
-	if len(parts) != 2 {
+	if len(parts) != 2 || !isLetter.MatchString(parts[1]) {
 		return sess.Answer{Err: api.ErrSyntax}, now, true
 	}
 	row := ""

@@ -25,8 +25,14 @@ func spans() []string {
 
 // isSet: do the parts of a statement begin as those of a SET?
 func isSet(parts []word.Part) bool {
-	return isName(parts, 0, "set") && len(parts) > 2 && parts[1].Kind == word.Letters &&
+	return isName(parts, 0, "set") && len(parts) > 2 && namesOne(parts) &&
 		(parts[2].Text == "=" || isName(parts, 2, "to"))
+}
+
+// namesOne: is what follows a statement's first part a name, be it of a
+// setting or not?
+func namesOne(parts []word.Part) bool {
+	return len(parts) > 1 && parts[1].Kind == word.Letters
 }
 
 // isName: is the i-th part there, and that name?
@@ -128,7 +134,8 @@ func isBetween(r rune) bool {
 
 // setting is what comes of a SHOW.
 func (s *Session) setting(parts []word.Part) Answer {
-	if len(parts) != 2 {
+	// What is no name is none that nobody knows, either.
+	if len(parts) != 2 || !namesOne(parts) {
 		return Answer{Err: api.ErrSyntax}
 	}
 	row, e := s.settingNamed(word.Lower(parts[1].Text))
